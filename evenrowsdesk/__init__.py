@@ -1,0 +1,1 @@
+"""Rows more even than others: evenrowsdesk.desk.answers(calls)."""
