@@ -25,6 +25,22 @@ def move(i, p, q, a):
     return [4, i, p, q, a]
 
 
+def step(i, j):
+    return [5, i, j]
+
+
+def meet(i, j, k):
+    return [6, i, j, k]
+
+
+def count(i, j):
+    return [7, i, j]
+
+
+def made(i, j, most=12):
+    return [8, i, j, most]
+
+
 def line(calls):
     return [number for call in calls for number in call]
 

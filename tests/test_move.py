@@ -1,8 +1,8 @@
 import itertools
 import unittest
 
+from tests.by_words import over_by_definition
 from tests.lines import LEAST, MOST, OUTSIDE, all_rows, ask, in_order, last, move, over, row, told_sorted
-from tests.test_over import over_by_definition
 
 
 def moved(numbers, p, q, a):

@@ -1,16 +1,8 @@
 import itertools
 import unittest
 
+from tests.by_words import over_by_definition
 from tests.lines import OUTSIDE, all_rows, ask, last, over, row
-
-
-def most_of(numbers, k):
-    return max(sum(some) for some in itertools.combinations(numbers, k))
-
-
-def over_by_definition(first, second):
-    return (len(first) == len(second) and sum(first) == sum(second)
-            and all(most_of(first, k) >= most_of(second, k) for k in range(1, len(first) + 1)))
 
 
 def compared(first, second):
